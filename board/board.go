@@ -5,6 +5,7 @@ import (
 	"slices"
 
 	"testliner/api"
+	"testliner/span"
 )
 
 // Check returns the error of a store.
@@ -78,7 +79,7 @@ func Use(s api.BoardStore, b api.BoardMake, area int) ([]api.Ratio, api.Errno) {
 	if e := Made(s, b); e != api.OK {
 		return nil, e
 	}
-	if !within(0, api.MaxBoardArea, area) {
+	if !span.Within(0, api.MaxBoardArea, area) {
 		return nil, api.ErrRange
 	}
 	x := lay(s, b)
@@ -103,34 +104,34 @@ func Meets(s api.BoardStore, b api.BoardMake, w api.BoardWish) (bool, api.Errno)
 // goodPaper reports whether a paper is valid.
 func goodPaper(p api.BoardPaper) bool {
 	return (p.Kind == api.BoardLiner || p.Kind == api.BoardMedium) &&
-		within(1, api.MaxBoardWeight, p.Weight) &&
-		valid(p.Thick, 1, api.MaxBoardThick) &&
-		valid(p.Moist, 0, api.MaxBoardMoist) &&
-		within(0, api.MaxBoardPrice, p.Price) &&
-		within(0, api.MaxBoardStrong, p.Strong)
+		span.Within(1, api.MaxBoardWeight, p.Weight) &&
+		span.Valid(1, api.MaxBoardThick, p.Thick) &&
+		span.Valid(0, api.MaxBoardMoist, p.Moist) &&
+		span.Within(0, api.MaxBoardPrice, p.Price) &&
+		span.Within(0, api.MaxBoardStrong, p.Strong)
 }
 
 // goodFlute reports whether a flute is valid.
 func goodFlute(f api.BoardFlute) bool {
-	return within(api.MinBoardPitch, api.MaxBoardPitch, f.Pitch) &&
-		within(f.Pitch, 2*f.Pitch, f.Draw) &&
-		valid(f.High, 1, api.MaxBoardHigh)
+	return span.Within(api.MinBoardPitch, api.MaxBoardPitch, f.Pitch) &&
+		span.Within(f.Pitch, 2*f.Pitch, f.Draw) &&
+		span.Valid(1, api.MaxBoardHigh, f.High)
 }
 
 // goodWish reports whether a wish is valid.
 func goodWish(w api.BoardWish) bool {
-	return valid(w.Caliper, 0, api.MaxBoardSample) &&
-		within(0, api.MaxBoardSample, w.Strong, w.Weight)
+	return span.Valid(0, api.MaxBoardSample, w.Caliper) &&
+		span.Within(0, api.MaxBoardSample, w.Strong, w.Weight)
 }
 
 // formed reports whether a board has as many flutes and papers as there may be.
 func formed(b api.BoardMake) bool {
-	return within(1, api.MaxBoardFlutes, len(b.Flutes)) && len(b.Papers) == 2*len(b.Flutes)+1
+	return span.Within(1, api.MaxBoardFlutes, len(b.Flutes)) && len(b.Papers) == 2*len(b.Flutes)+1
 }
 
 // numbered reports whether a board has just the numbers of so many papers and flutes.
 func numbered(b api.BoardMake, papers, flutes int) bool {
-	return within(0, papers-1, b.Papers...) && within(0, flutes-1, b.Flutes...)
+	return span.Within(0, papers-1, b.Papers...) && span.Within(0, flutes-1, b.Flutes...)
 }
 
 // kindAt returns which kind of paper lies at a place of a board.
@@ -139,16 +140,6 @@ func kindAt(place int) api.BoardKind {
 		return api.BoardLiner
 	}
 	return api.BoardMedium
-}
-
-// within reports whether all numbers are from low to high.
-func within(low, high int, numbers ...int) bool {
-	return every(numbers, func(n int) bool { return low <= n && n <= high })
-}
-
-// valid reports whether a span is valid from low to high.
-func valid(s api.Span, low, high int) bool {
-	return within(low, high, s.Low, s.High) && s.Low <= s.High
 }
 
 // every reports whether all elements of a list fulfil a condition.

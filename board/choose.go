@@ -5,6 +5,7 @@ import (
 	"slices"
 
 	"testliner/api"
+	"testliner/span"
 )
 
 // Best returns the lightest board, or the one that costs least, of those that meet a wish.
@@ -37,7 +38,7 @@ func Can(s api.BoardStore, x api.BoardSample) ([]api.BoardMake, api.Errno) {
 	if e := Check(s); e != api.OK {
 		return nil, e
 	}
-	if !valid(x.Weight, 0, api.MaxBoardSample) || !valid(x.Caliper, 0, api.MaxBoardSample) {
+	if !span.Valid(0, api.MaxBoardSample, x.Weight, x.Caliper) {
 		return nil, api.ErrArg
 	}
 	var can []api.BoardMake
