@@ -7,7 +7,7 @@ import (
 	"testliner/api"
 )
 
-// A loop over places, cuts or orders can end early, and the same ones come each time that they are asked for.
+// A loop over places or cuts can end early, and the same ones come each time that they are asked for.
 func TestEarlyEnd(t *testing.T) {
 	d := deck{api.PalletBase{Long: 120, Wide: 80}, api.PalletBox{Long: 40, Wide: 30, High: 10}}
 	s := sawOf(d)
@@ -35,34 +35,5 @@ func TestEarlyEnd(t *testing.T) {
 				t.Error(name, many, got)
 			}
 		}
-	}
-	for many := range 7 {
-		var got [][]int
-		for order := range orders(3) {
-			if len(got) == many {
-				break
-			}
-			got = append(got, order)
-		}
-		if want := [][]int{{0, 1, 2}, {0, 2, 1}, {1, 0, 2}, {1, 2, 0}, {2, 0, 1}, {2, 1, 0}}; !slices.EqualFunc(got, want[:many], slices.Equal) {
-			t.Error(many, got)
-		}
-	}
-}
-
-// The orders are each in memory of its own.
-func TestOrdersMemory(t *testing.T) {
-	var all [][]int
-	for order := range orders(4) {
-		all = append(all, order)
-	}
-	for i, order := range all {
-		if !slices.IsSortedFunc(all[i:], slices.Compare) || len(order) != 4 {
-			t.Error(i, order)
-		}
-		clear(order[:cap(order)])
-	}
-	if len(all) != 24 {
-		t.Error(len(all))
 	}
 }

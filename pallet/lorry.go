@@ -1,10 +1,8 @@
 package pallet
 
 import (
-	"iter"
-	"slices"
-
 	"testliner/api"
+	"testliner/orders"
 )
 
 // lorry is a lorry with the pallets that go onto it.
@@ -69,7 +67,7 @@ func down(n, by int) int {
 
 // order returns the smallest order of the pallets that the axles bear in all truths.
 func (l lorry) order() (order []int, found bool) {
-	for order := range orders(len(l.items)) {
+	for order := range orders.Of(len(l.items)) {
 		if l.bears(order...) {
 			return order, true
 		}
@@ -82,25 +80,4 @@ func (l lorry) bears(order ...int) bool {
 	front, back := l.shares(order...)
 	return front.Low >= 0 && front.High <= l.FrontMost*l.apart() &&
 		back.Low >= 0 && back.High <= l.BackMost*l.apart()
-}
-
-// orders yields all orders of so many pallets that begin with some of them: in ascending order, each in new memory.
-func orders(pallets int, begin ...int) iter.Seq[[]int] {
-	return func(yield func([]int) bool) {
-		if len(begin) == pallets {
-			yield(begin)
-			return
-		}
-		for next := range pallets {
-			if slices.Contains(begin, next) {
-				continue
-			}
-			// No two orders begin in the same memory.
-			for order := range orders(pallets, append(slices.Clone(begin), next)...) {
-				if !yield(order) {
-					return
-				}
-			}
-		}
-	}
 }
