@@ -1,10 +1,10 @@
 package crush
 
 import (
-	"iter"
 	"slices"
 
 	"testliner/api"
+	"testliner/sets"
 )
 
 // pile is boxes that are to be put one on another, and how many thousandths of their strength they keep. Sets of boxes are bits.
@@ -32,7 +32,7 @@ func (p pile) all() int { return 1<<len(p.boxes) - 1 }
 
 // lowest returns the first box of a set that bears all others of it while these stand in some order.
 func (p pile) lowest(set int) (box int, found bool) {
-	for box := range members(set) {
+	for box := range sets.Members(set) {
 		others := set &^ (1 << box)
 		if p.stands[others] && p.weight(others) <= bears(p.boxes[box], p.keep) {
 			return box, true
@@ -44,7 +44,7 @@ func (p pile) lowest(set int) (box int, found bool) {
 // weight returns how heavy the boxes of a set are at most.
 func (p pile) weight(set int) int {
 	sum := 0
-	for box := range members(set) {
+	for box := range sets.Members(set) {
 		sum += p.boxes[box].Weight.High
 	}
 	return sum
@@ -71,21 +71,10 @@ func (p pile) most() []int {
 		if !p.stands[set] {
 			continue
 		}
-		list := slices.Collect(members(set))
+		list := slices.Collect(sets.Members(set))
 		if len(list) > len(best) || len(list) == len(best) && slices.Compare(list, best) < 0 {
 			best = list
 		}
 	}
 	return best
-}
-
-// members yields the numbers of a set, ascending.
-func members(set int) iter.Seq[int] {
-	return func(yield func(int) bool) {
-		for number := 0; set>>number != 0; number++ {
-			if set>>number&1 == 1 && !yield(number) {
-				return
-			}
-		}
-	}
 }

@@ -7,6 +7,7 @@ import (
 
 	"testliner/api"
 	"testliner/orders"
+	"testliner/sets"
 	"testliner/span"
 )
 
@@ -100,30 +101,10 @@ func (s shop) inTime() bool {
 	return least.sum == 0
 }
 
-// never returns the smallest list of the fewest jobs that cannot all be in time without the others, or none.
+// never returns the smallest list of the fewest jobs that cannot all be in time without the others, if all of them cannot.
 func (s shop) never() []int {
-	var never []int
-	for set := range 1 << len(s.jobs) {
-		numbers := members(set)
-		if s.only(numbers...).inTime() {
-			continue
-		}
-		if never == nil || cmp.Or(cmp.Compare(len(numbers), len(never)), slices.Compare(numbers, never)) < 0 {
-			never = numbers
-		}
-	}
-	return never
-}
-
-// members returns the numbers of a set, ascending.
-func members(set int) []int {
-	var numbers []int
-	for number := 0; set>>number > 0; number++ {
-		if set>>number&1 == 1 {
-			numbers = append(numbers, number)
-		}
-	}
-	return numbers
+	all := sets.Of(len(s.jobs))
+	return all[slices.IndexFunc(all, func(numbers []int) bool { return !s.only(numbers...).inTime() })]
 }
 
 // only returns the shop with some of its jobs alone.

@@ -5,6 +5,7 @@ import (
 	"slices"
 
 	"testliner/api"
+	"testliner/sets"
 )
 
 // needs are what each order still needs; nothing where there is no order. The least need is not above 0 for orders that have enough.
@@ -110,7 +111,7 @@ func (m machine) does() bool {
 
 // against returns the fewest orders that no plan does together, if none does for all of them.
 func (m machine) against() []int {
-	all := choices(len(m.orders))
+	all := sets.Of(len(m.orders))
 	return all[slices.IndexFunc(all, func(numbers []int) bool { return !m.only(numbers...).does() })]
 }
 
@@ -121,22 +122,4 @@ func (m machine) only(numbers ...int) machine {
 		some.orders = append(some.orders, m.orders[order])
 	}
 	return some
-}
-
-// choices returns all lists of some of so many orders, those with the fewest first, and of these the smaller ones.
-func choices(orders int) [][]int {
-	var all [][]int
-	for set := range 1 << orders {
-		var numbers []int
-		for order := range orders {
-			if set>>order&1 == 1 {
-				numbers = append(numbers, order)
-			}
-		}
-		all = append(all, numbers)
-	}
-	slices.SortFunc(all, func(a, b []int) int {
-		return cmp.Or(cmp.Compare(len(a), len(b)), slices.Compare(a, b))
-	})
-	return all
 }
