@@ -5,6 +5,7 @@ import (
 	"slices"
 
 	"testliner/api"
+	"testliner/reckon"
 	"testliner/span"
 )
 
@@ -85,7 +86,7 @@ func Use(s api.BoardStore, b api.BoardMake, area int) ([]api.Ratio, api.Errno) {
 	x := lay(s, b)
 	use := make([]api.Ratio, 0, len(s.Papers))
 	for number, paper := range s.Papers {
-		use = append(use, lowest(area*paper.Weight*x.used[number], x.parts))
+		use = append(use, reckon.Lowest(area*paper.Weight*x.used[number], x.parts))
 	}
 	return use, api.OK
 }

@@ -1,6 +1,9 @@
 package board
 
-import "testliner/api"
+import (
+	"testliner/api"
+	"testliner/reckon"
+)
 
 // sheet is a board with the store of which it is made, and with how many square metres of each paper lie in one of the board.
 type sheet struct {
@@ -48,7 +51,7 @@ func (x sheet) total(of func(api.BoardPaper) int) int {
 
 // weight returns the dry weight.
 func (x sheet) weight() api.Ratio {
-	return lowest(x.total(func(p api.BoardPaper) int { return p.Weight }), x.parts)
+	return reckon.Lowest(x.total(func(p api.BoardPaper) int { return p.Weight }), x.parts)
 }
 
 // strength returns how strong the board is.
@@ -58,8 +61,7 @@ func (x sheet) strength() int {
 
 // cost returns what 1000 square metres cost, rounded up.
 func (x sheet) cost() int {
-	most := 1000 * x.parts
-	return (x.total(func(p api.BoardPaper) int { return p.Weight * p.Price }) + most - 1) / most
+	return reckon.Up(x.total(func(p api.BoardPaper) int { return p.Weight * p.Price }), 1000*x.parts)
 }
 
 // measure returns the moist weight and the caliper over all truths: both rise with each number that is not known, so their ends come from the ends of those.
@@ -96,13 +98,4 @@ func (x sheet) meets(w api.BoardWish) bool {
 	_, caliper := x.measure()
 	return w.Caliper.Low <= caliper.Low && caliper.High <= w.Caliper.High &&
 		x.strength() >= w.Strong && weight.Num <= w.Weight*weight.Den
-}
-
-// lowest returns a ratio in lowest terms.
-func lowest(num, den int) api.Ratio {
-	a, b := num, den
-	for b != 0 {
-		a, b = b, a%b
-	}
-	return api.Ratio{Num: num / a, Den: den / a}
 }

@@ -7,6 +7,7 @@ import (
 
 	"testliner/api"
 	"testliner/orders"
+	"testliner/reckon"
 	"testliner/sets"
 	"testliner/span"
 )
@@ -120,7 +121,7 @@ func (s shop) only(numbers ...int) shop {
 func (s shop) bound() int {
 	bound := 0
 	for _, job := range s.jobs {
-		bound = max(bound, job.Ready+sum(job.Minutes...))
+		bound = max(bound, job.Ready+reckon.Sum(job.Minutes...))
 	}
 	for machine := range s.Machines {
 		bound = max(bound, s.work(machine))
@@ -133,24 +134,15 @@ func (s shop) work(machine int) int {
 	var before, on, after []int
 	for _, job := range s.jobs {
 		if job.Minutes[machine] > 0 {
-			before = append(before, job.Ready+sum(job.Minutes[:machine]...))
+			before = append(before, job.Ready+reckon.Sum(job.Minutes[:machine]...))
 			on = append(on, job.Minutes[machine])
-			after = append(after, sum(job.Minutes[machine+1:]...))
+			after = append(after, reckon.Sum(job.Minutes[machine+1:]...))
 		}
 	}
 	if len(on) == 0 {
 		return 0
 	}
-	return slices.Min(before) + sum(on...) + slices.Min(after)
-}
-
-// sum returns the sum of numbers.
-func sum(numbers ...int) int {
-	all := 0
-	for _, n := range numbers {
-		all += n
-	}
-	return all
+	return slices.Min(before) + reckon.Sum(on...) + slices.Min(after)
 }
 
 // waits returns the times at which each job waits before a machine: none if it starts there when it comes, as one that passes it by does.

@@ -1,14 +1,16 @@
 package glue
 
-import "testliner/api"
+import (
+	"testliner/api"
+	"testliner/reckon"
+)
 
 // press is a rule by which the glue of pressed boxes sets.
 type press struct{ api.GlueRule }
 
 // time returns how many minutes glue needs in one truth.
 func (p press) time(warm, damp int) int {
-	thousandths := p.Minutes * (1000 - p.Degree*warm + p.Damp*damp)
-	return (thousandths + 999) / 1000
+	return reckon.Up(p.Minutes*(1000-p.Degree*warm+p.Damp*damp), 1000)
 }
 
 // times returns how many minutes glue needs in a room: the fewest where it is warm and dry.

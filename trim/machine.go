@@ -5,6 +5,7 @@ import (
 	"slices"
 
 	"testliner/api"
+	"testliner/reckon"
 	"testliner/span"
 )
 
@@ -31,7 +32,7 @@ func (m machine) webbed(webs []int) api.Errno {
 // fits reports whether webs are a pattern.
 func (m machine) fits(webs []int) bool {
 	run := numberOf(webs, func(many int) bool { return many > 0 })
-	return run <= together && span.Within(1, m.Webs, sum(webs...)) && span.Within(m.Trim.Low, m.Trim.High, m.trim(webs))
+	return run <= together && span.Within(1, m.Webs, reckon.Sum(webs...)) && span.Within(m.Trim.Low, m.Trim.High, m.trim(webs))
 }
 
 // trim returns the trim of webs.
@@ -135,7 +136,7 @@ func (m machine) after(setups ...api.TrimSetup) []api.TrimOrder {
 // leastSetups returns a number of set-ups that no plan is below.
 func (m machine) leastSetups() int {
 	needed := numberOf(m.orders, func(o api.TrimOrder) bool { return o.Need.Low > 0 })
-	return up(needed, together)
+	return reckon.Up(needed, together)
 }
 
 // leastRun returns a sum of runs that no plan is below, if the paper is wider than the least trim.
@@ -144,7 +145,7 @@ func (m machine) leastRun() int {
 	for _, o := range m.orders {
 		needed += o.Width * o.Need.Low
 	}
-	return up(needed, m.Wide-m.Trim.Low)
+	return reckon.Up(needed, m.Wide-m.Trim.Low)
 }
 
 // numberOf returns how many elements of a list fulfil a condition.
@@ -157,15 +158,3 @@ func numberOf[E any](list []E, holds func(E) bool) int {
 	}
 	return many
 }
-
-// sum returns the sum of some numbers.
-func sum(numbers ...int) int {
-	all := 0
-	for _, n := range numbers {
-		all += n
-	}
-	return all
-}
-
-// up returns n / by, rounded up, for a by above 0 and an n that is not below 0.
-func up(n, by int) int { return (n + by - 1) / by }

@@ -5,6 +5,7 @@ import (
 	"slices"
 
 	"testliner/api"
+	"testliner/reckon"
 	"testliner/sets"
 )
 
@@ -74,7 +75,7 @@ func (n needs) runs(webs []int, last bool) api.Span {
 		if many == 0 {
 			return api.Span{Low: 1, High: 0}
 		}
-		runs.Low = max(runs.Low, up(need.Low, many))
+		runs.Low = max(runs.Low, reckon.Up(need.Low, many))
 	}
 	if last {
 		runs.High = min(runs.High, runs.Low)
